@@ -1008,13 +1008,19 @@ func TestSitesAreNewMemory(t *testing.T) {
 
 // overlap tells whether two lists have room in common, what is behind their
 // length included.
-func overlap(a, b []string) bool {
-	if cap(a) == 0 || cap(b) == 0 {
-		return false
+func overlap[A, B any](a []A, b []B) bool {
+	from, end := roomOf(a)
+	at, to := roomOf(b)
+	return from < to && at < end
+}
+
+func roomOf[T any](l []T) (from, end uintptr) {
+	if cap(l) == 0 {
+		return 0, 0
 	}
-	size := unsafe.Sizeof("")
-	from, at := uintptr(unsafe.Pointer(unsafe.SliceData(a))), uintptr(unsafe.Pointer(unsafe.SliceData(b)))
-	return from < at+uintptr(cap(b))*size && at < from+uintptr(cap(a))*size
+	var one T
+	from = uintptr(unsafe.Pointer(unsafe.SliceData(l)))
+	return from, from + uintptr(cap(l))*unsafe.Sizeof(one)
 }
 
 func TestParsedRulesShareNoMemory(t *testing.T) {
